@@ -21,3 +21,25 @@ func Content(c api.Content) api.Content {
 	c.Levels = Levels(c.Levels)
 	return c
 }
+
+// Event returns a copy of an event.
+func Event(e api.Event) api.Event {
+	e.Prev = slices.Clone(e.Prev)
+	e.Auth = slices.Clone(e.Auth)
+	e.Content = Content(e.Content)
+	return e
+}
+
+// Events returns a copy of a list of events.
+func Events(l []api.Event) []api.Event {
+	return each(l, Event)
+}
+
+// each applies copied to each element; nil stays nil.
+func each[T any](l []T, copied func(x T) T) []T {
+	fresh := slices.Clone(l)
+	for i, x := range fresh {
+		fresh[i] = copied(x)
+	}
+	return fresh
+}

@@ -3,6 +3,7 @@ package content
 import (
 	"fedchat/api"
 	"fedchat/codec"
+	"fedchat/reader"
 )
 
 // Encode returns the canonical bytes of a content.
@@ -35,27 +36,11 @@ func encodeLevels(l api.Levels) []byte {
 	return b
 }
 
-// reader takes values off the beginning of bytes; once it fails, all further values are zero.
-type reader struct {
-	rest   []byte
-	failed bool
-}
-
-func take[T any](r *reader, get func(b []byte) (T, []byte, bool)) T {
-	var x T
-	if r.failed {
-		return x
-	}
-	x, rest, ok := get(r.rest)
-	r.rest, r.failed = rest, !ok
-	return x
-}
-
 // count takes the length of a list, whose elements need at least one byte each.
-func (r *reader) count() int {
-	n := take(r, codec.GetInt)
-	if n < 0 || n > len(r.rest) {
-		r.failed = true
+func count(r *reader.Reader) int {
+	n := reader.Take(r, codec.GetInt)
+	if n < 0 || n > len(r.Rest) {
+		r.Failed = true
 		return 0
 	}
 	return n
@@ -63,39 +48,39 @@ func (r *reader) count() int {
 
 // Decode returns the content whose canonical bytes b is, and whether there is one.
 func Decode(b []byte) (api.Content, bool) {
-	r := &reader{rest: b}
+	r := &reader.Reader{Rest: b}
 	c := api.Content{
-		Text:   take(r, codec.GetText),
-		N:      take(r, codec.GetInt),
-		Target: take(r, codec.GetInt),
-		Thread: take(r, codec.GetBool),
-		Via:    take(r, codec.GetText),
-		Allow:  take(r, codec.GetTexts),
-		Deny:   take(r, codec.GetTexts),
+		Text:   reader.Take(r, codec.GetText),
+		N:      reader.Take(r, codec.GetInt),
+		Target: reader.Take(r, codec.GetInt),
+		Thread: reader.Take(r, codec.GetBool),
+		Via:    reader.Take(r, codec.GetText),
+		Allow:  reader.Take(r, codec.GetTexts),
+		Deny:   reader.Take(r, codec.GetTexts),
 		Levels: decodeLevels(r),
 	}
-	if r.failed || len(r.rest) > 0 {
+	if !r.Ended() {
 		return api.Content{}, false
 	}
 	return c, true
 }
 
-func decodeLevels(r *reader) api.Levels {
+func decodeLevels(r *reader.Reader) api.Levels {
 	l := api.Levels{}
-	for range r.count() {
-		l.Users = append(l.Users, api.Level{User: take(r, codec.GetText), N: take(r, codec.GetInt)})
-		if r.failed {
+	for range count(r) {
+		l.Users = append(l.Users, api.Level{User: reader.Take(r, codec.GetText), N: reader.Take(r, codec.GetInt)})
+		if r.Failed {
 			return api.Levels{}
 		}
 	}
-	for range r.count() {
-		l.Kinds = append(l.Kinds, api.KindLevel{Kind: api.Kind(take(r, codec.GetInt)), N: take(r, codec.GetInt)})
-		if r.failed {
+	for range count(r) {
+		l.Kinds = append(l.Kinds, api.KindLevel{Kind: api.Kind(reader.Take(r, codec.GetInt)), N: reader.Take(r, codec.GetInt)})
+		if r.Failed {
 			return api.Levels{}
 		}
 	}
 	for _, n := range []*int{&l.User, &l.Message, &l.State, &l.Invite, &l.Kick, &l.Ban, &l.Redact} {
-		*n = take(r, codec.GetInt)
+		*n = reader.Take(r, codec.GetInt)
 	}
 	return l
 }
