@@ -43,3 +43,15 @@ func each[T any](l []T, copied func(x T) T) []T {
 	}
 	return fresh
 }
+
+// Room returns a copy of a room.
+func Room(r api.Room) api.Room {
+	r.Events = Events(r.Events)
+	r.Rows = slices.Clone(r.Rows)
+	r.Waiting = Events(r.Waiting)
+	r.Heads = slices.Clone(r.Heads)
+	r.State = slices.Clone(r.State)
+	r.Receipts = slices.Clone(r.Receipts)
+	r.Typing = slices.Clone(r.Typing)
+	return r
+}
