@@ -1,4 +1,4 @@
-package room
+package room_test
 
 import (
 	"fmt"
@@ -13,6 +13,7 @@ import (
 	"fedchat/graph"
 	"fedchat/num"
 	"fedchat/replay"
+	. "fedchat/room"
 	"fedchat/sample"
 	"fedchat/statemap"
 	"fedchat/store"

@@ -6,10 +6,12 @@ import (
 	"fedchat/authset"
 	"fedchat/content"
 	"fedchat/event"
+	"fedchat/graph"
 	"fedchat/history"
 	"fedchat/ids"
 	"fedchat/num"
 	"fedchat/resolve"
+	"fedchat/room"
 	"fedchat/store"
 )
 
@@ -155,4 +157,22 @@ func randomLevels(pick func(n int) int) api.Levels {
 		v.State, v.Message = 10*pick(5), 10*pick(2)
 	}
 	return v
+}
+
+// Received returns the room on a server to which the events came in some order; pick decides which comes next.
+func Received(r *Room, pick func(n int) int) api.Room {
+	got, _ := room.New(r.Id)
+	left := store.Of(r.Events, graph.Order(r.Events))
+	for len(left) > 0 {
+		// Mostly one of the first events comes next, so that few have to wait.
+		i := min(pick(3)*pick(3), len(left)-1)
+		got, _, _ = room.Receive(got, left[i])
+		left = append(left[:i:i], left[i+1:]...)
+	}
+	return got
+}
+
+// InOrder returns the room on a server to which the events came by their depth.
+func InOrder(r *Room) api.Room {
+	return Received(r, func(int) int { return 0 })
 }
