@@ -5,6 +5,7 @@ import (
 	"fedchat/api"
 	"fedchat/graph"
 	"fedchat/history"
+	"fedchat/ids"
 	"fedchat/statemap"
 	"fedchat/store"
 )
@@ -125,4 +126,18 @@ func (s *Sight) comesOf(user string) map[int]bool {
 		reached[id] = true
 	}
 	return reached
+}
+
+// Users returns the users of a server who ever were in the room, in any way.
+func (s *Sight) Users(server string) []string {
+	users := []string{}
+	seen := map[string]bool{}
+	for i := range s.room.Events {
+		e := &s.room.Events[i]
+		if e.Kind == api.KMember && !seen[e.Key] && ids.ServerOf(e.Key) == server {
+			seen[e.Key] = true
+			users = append(users, e.Key)
+		}
+	}
+	return users
 }
