@@ -55,3 +55,18 @@ func Room(r api.Room) api.Room {
 	r.Typing = slices.Clone(r.Typing)
 	return r
 }
+
+// Queue returns a copy of a queue.
+func Queue(q api.Queue) api.Queue {
+	q.Events = Events(q.Events)
+	q.Open = Events(q.Open)
+	return q
+}
+
+// Packet returns a copy of a packet.
+func Packet(p api.Packet) api.Packet {
+	p.Events = Events(p.Events)
+	p.Ids = slices.Clone(p.Ids)
+	p.Auth = Events(p.Auth)
+	return p
+}

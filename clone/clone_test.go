@@ -75,4 +75,6 @@ func TestCopies(t *testing.T) {
 	check(t, "Event", Event)
 	check(t, "Events", Events)
 	check(t, "Room", Room)
+	check(t, "Queue", Queue)
+	check(t, "Packet", Packet)
 }
