@@ -70,3 +70,10 @@ func Packet(p api.Packet) api.Packet {
 	p.Auth = Events(p.Auth)
 	return p
 }
+
+// Network returns a copy of a network.
+func Network(n api.Network) api.Network {
+	n.Packets = each(n.Packets, Packet)
+	n.Cut = slices.Clone(n.Cut)
+	return n
+}

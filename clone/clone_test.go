@@ -77,4 +77,5 @@ func TestCopies(t *testing.T) {
 	check(t, "Room", Room)
 	check(t, "Queue", Queue)
 	check(t, "Packet", Packet)
+	check(t, "Network", Network)
 }
