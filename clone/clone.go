@@ -77,3 +77,35 @@ func Network(n api.Network) api.Network {
 	n.Cut = slices.Clone(n.Cut)
 	return n
 }
+
+// Keys returns a copy of the identity of a user.
+func Keys(k api.Keys) api.Keys {
+	k.Devices = slices.Clone(k.Devices)
+	return k
+}
+
+// Server returns a copy of a server.
+func Server(s api.Server) api.Server {
+	s.Rooms = each(s.Rooms, Room)
+	s.Queues = each(s.Queues, Queue)
+	s.Users = slices.Clone(s.Users)
+	s.Pending = each(s.Pending, Packet)
+	s.Keys = each(s.Keys, Keys)
+	s.OneTime = slices.Clone(s.OneTime)
+	s.Limits = slices.Clone(s.Limits)
+	s.Media = slices.Clone(s.Media)
+	return s
+}
+
+// Packets returns a copy of a list of packets.
+func Packets(l []api.Packet) []api.Packet {
+	return each(l, Packet)
+}
+
+// Grid returns a copy of a world.
+func Grid(g api.Grid) api.Grid {
+	g.Servers = each(g.Servers, Server)
+	g.Net = Network(g.Net)
+	g.Evil = slices.Clone(g.Evil)
+	return g
+}

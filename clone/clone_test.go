@@ -78,4 +78,8 @@ func TestCopies(t *testing.T) {
 	check(t, "Queue", Queue)
 	check(t, "Packet", Packet)
 	check(t, "Network", Network)
+	check(t, "Keys", Keys)
+	check(t, "Server", Server)
+	check(t, "Packets", Packets)
+	check(t, "Grid", Grid)
 }
