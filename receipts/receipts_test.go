@@ -175,6 +175,7 @@ func TestCountsFollowTheDefinition(t *testing.T) {
 		user := sample.Users()[source.Intn(3)]
 		last := -1
 		counts := []int{}
+		rows, gone := visible.Rows(r, user), redact.Gone(r.Events)
 		for place := -1; place < len(r.Rows); place++ {
 			l := []api.Receipt{}
 			if place >= 0 {
@@ -183,7 +184,7 @@ func TestCountsFollowTheDefinition(t *testing.T) {
 			want, mentions := 0, 0
 			for i, row := range r.Rows {
 				e, _ := store.Get(r.Events, row.Id)
-				if i > place && slices.Contains(visible.Rows(r, user), row.Id) && !row.Gone && !num.Has(redact.Gone(r.Events), row.Id) && e.Kind == api.KMessage && e.Sender != user {
+				if i > place && slices.Contains(rows, row.Id) && !row.Gone && !num.Has(gone, row.Id) && e.Kind == api.KMessage && e.Sender != user {
 					want++
 					if strings.Contains(e.Content.Text, ids.LocalOf(user)) {
 						mentions++
