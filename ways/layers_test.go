@@ -1,7 +1,7 @@
 package ways
 
 // built is the number of layers that have landed.
-const built = 39
+const built = 40
 
 // layer is a line of the document's tables: what a package may call (with what the chapter adds), and the features that it uses.
 type layer struct{ name, calls, features string }
@@ -44,10 +44,10 @@ var layers = []layer{
 	{"server", "room gaps outgoing joining queues", "interface interface-call"},
 	{"world", "server net evil", "type-switch label"},
 	{"relate", "redact", "map struct-compared"},
-	{"receipts", "relate visible", "array"},
+	{"receipts", "relate visible ids room", "array"},
 	{"typing", "ids", "copy"},
 	{"filter", "content ids", "range-function"},
-	{"timeline", "visible retain filter", "label"},
+	{"timeline", "visible retain filter event redact room", "label"},
 	{"sync", "receipts typing filter timeline", "closure recursive-closure map"},
 	{"view", "sync", "three-index copy"},
 	{"devices", "ids num", "delete map"},
@@ -60,7 +60,7 @@ var layers = []layer{
 	{"media", "ids", "delete"},
 	{"bridge", "ids", "map"},
 	{"notify", "receipts visible relate", "method-value"},
-	{"search", "visible relate timeline", "range-string"},
+	{"search", "visible relate event redact timeline", "range-string"},
 	{"digest", "sums room", "fallthrough"},
 	{"home", "server sync moderate rates devices onetime sessions trust media notify search", "closure recursive-closure function-field"},
 	{"script", "world home view digest", "map function-field"},
