@@ -109,3 +109,11 @@ func Grid(g api.Grid) api.Grid {
 	g.Evil = slices.Clone(g.Evil)
 	return g
 }
+
+// View returns a copy of a client's view.
+func View(v api.View) api.View {
+	v.Events = Events(v.Events)
+	v.Gaps = slices.Clone(v.Gaps)
+	v.State = Events(v.State)
+	return v
+}

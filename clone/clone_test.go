@@ -82,4 +82,5 @@ func TestCopies(t *testing.T) {
 	check(t, "Server", Server)
 	check(t, "Packets", Packets)
 	check(t, "Grid", Grid)
+	check(t, "View", View)
 }
