@@ -117,3 +117,8 @@ func View(v api.View) api.View {
 	v.State = Events(v.State)
 	return v
 }
+
+// KeyList returns a copy of a device list.
+func KeyList(l []api.Keys) []api.Keys {
+	return each(l, Keys)
+}

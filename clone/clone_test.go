@@ -83,4 +83,5 @@ func TestCopies(t *testing.T) {
 	check(t, "Packets", Packets)
 	check(t, "Grid", Grid)
 	check(t, "View", View)
+	check(t, "KeyList", KeyList)
 }
