@@ -81,7 +81,12 @@ func (b *Book) page(id int) *page {
 }
 
 func (b *Book) write(p *page, e api.Event) {
-	p.before = resolve.Resolve(b.state, b.statesAfter(e.Prev))
+	if states := b.statesAfter(e.Prev); len(states) == 1 {
+		// Most events have one event before them, and states can be shared.
+		p.before = states[0]
+	} else {
+		p.before = resolve.Resolve(b.state, states)
+	}
 	p.after = p.before
 	p.err = b.judge(e, p.before)
 	if p.err == api.OK && content.State(e.Kind) {
@@ -112,7 +117,21 @@ func (b *Book) judge(e api.Event, before api.State) api.Errno {
 			return api.ErrAuth
 		}
 	}
-	return auth.Allowed(e, b.Events(before))
+	return auth.Allowed(e, b.authorizing(e, before))
+}
+
+// authorizing returns the events of a state at which the rules look for e: there is one event at most for each kind and key.
+func (b *Book) authorizing(e api.Event, s api.State) []api.Event {
+	if e.Kind == api.KCreate {
+		return b.Events(s)
+	}
+	events := []api.Event{}
+	for _, key := range authset.Keys(e) {
+		if id, found := statemap.Get(s, key.Kind, key.Key); found && b.Has(id) {
+			events = append(events, b.Event(id))
+		}
+	}
+	return events
 }
 
 func (b *Book) eventsOf(ids []int) []api.Event {
