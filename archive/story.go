@@ -4,16 +4,14 @@ import (
 	"fedchat/api"
 	"fedchat/event"
 	"fedchat/num"
-	"fedchat/redact"
 	"fedchat/relate"
 	"fedchat/sight"
-	"fedchat/store"
-	"fedchat/timeline"
 )
 
 // Story returns what a user can read in a room.
 func Story(r api.Room, user string) string {
-	shown := sight.Forms(store.Of(r.Events, timeline.After(r, user, 0)), redact.Gone(r.Events))
+	seen := sight.Open(r)
+	shown := seen.Events(seen.Shown(user))
 	story := ""
 	for _, e := range shown {
 		if text := tell(shown, e); text != "" {

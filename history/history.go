@@ -109,7 +109,8 @@ func (b *Book) judge(e api.Event, before api.State) api.Errno {
 	if err := authset.Fits(named, e); err != api.OK {
 		return err
 	}
-	if err := auth.Allowed(e, authset.From(named, e)); err != api.OK {
+	// What fits names one event at most for each key, so that the order does not matter to the rules.
+	if err := auth.Allowed(e, named); err != api.OK {
 		return err
 	}
 	for _, id := range e.Auth {

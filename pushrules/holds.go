@@ -9,7 +9,6 @@ import (
 	"fedchat/members"
 	"fedchat/notify"
 	"fedchat/receipts"
-	"fedchat/redact"
 	"fedchat/relate"
 	"fedchat/room"
 	"fedchat/search"
@@ -24,7 +23,6 @@ type reader struct {
 	room   api.Room
 	user   string
 	sight  *sight.Sight
-	gone   []int
 	levels api.Levels
 	joined int
 }
@@ -32,12 +30,12 @@ type reader struct {
 func readerOf(r api.Room, user string) *reader {
 	state := statemap.Events(r.Events, r.State)
 	v, _ := levels.Of(state)
-	return &reader{room: r, user: user, sight: sight.Open(r), gone: redact.Gone(r.Events), levels: v, joined: len(members.With(state, api.Join))}
+	return &reader{room: r, user: user, sight: sight.Open(r), levels: v, joined: len(members.With(state, api.Join))}
 }
 
 // text returns the text of an event, of which a redaction leaves nothing.
 func (x *reader) text(e api.Event) string {
-	if slices.Contains(x.gone, e.Id) {
+	if x.sight.Gone()[e.Id] {
 		return ""
 	}
 	return e.Content.Text
@@ -78,7 +76,7 @@ func (x *reader) holds(c api.Cond, e api.Event) bool {
 	case api.MentionsMe:
 		return notify.Marks(x.text(e), x.user)
 	case api.IsGone:
-		return slices.Contains(x.gone, e.Id)
+		return x.sight.Gone()[e.Id]
 	}
 	return x.related(c.Op, e)
 }

@@ -2,6 +2,8 @@
 package sight
 
 import (
+	"slices"
+
 	"fedchat/api"
 	"fedchat/graph"
 	"fedchat/history"
@@ -20,6 +22,8 @@ type Sight struct {
 	statuses map[int]api.Status
 	// comes has, for users who were asked for, the events to which they come.
 	comes map[string]map[int]bool
+	// gone has the events that were redacted, once it was asked for.
+	gone map[int]bool
 }
 
 // Open returns the sight of a room; of a room without a right set of events nobody sees anything.
@@ -39,6 +43,40 @@ func Open(r api.Room) *Sight {
 // Book returns the book of the room's events, or nil.
 func (s *Sight) Book() *history.Book {
 	return s.book
+}
+
+// Room returns the room.
+func (s *Sight) Room() api.Room {
+	return s.room
+}
+
+// Gone returns the ids of the events that were redacted.
+func (s *Sight) Gone() map[int]bool {
+	if s.gone == nil {
+		s.gone = map[int]bool{}
+		if s.book != nil {
+			for _, r := range s.book.Redactions() {
+				s.gone[r.Target] = true
+			}
+		}
+	}
+	return s.gone
+}
+
+// Rows returns the rows that the user may see, in the order of the timeline.
+func (s *Sight) Rows(user string) []api.Row {
+	rows := []api.Row{}
+	for _, row := range s.room.Rows {
+		if s.May(row.Id, user) == api.OK {
+			rows = append(rows, row)
+		}
+	}
+	return rows
+}
+
+// Shown returns the rows that the user may see, and that are not gone.
+func (s *Sight) Shown(user string) []api.Row {
+	return slices.DeleteFunc(s.Rows(user), func(row api.Row) bool { return row.Gone })
 }
 
 // Visibility returns the visibility at an event that the book has.

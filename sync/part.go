@@ -5,16 +5,14 @@ import (
 
 	"fedchat/api"
 	"fedchat/filter"
+	"fedchat/history"
 	"fedchat/num"
 	"fedchat/receipts"
-	"fedchat/redact"
-	"fedchat/replay"
 	"fedchat/room"
 	"fedchat/sight"
 	"fedchat/statemap"
-	"fedchat/store"
-	"fedchat/timeline"
 	"fedchat/typing"
+	"fedchat/unread"
 )
 
 // reading is a room as a client of a user comes back to it.
@@ -23,16 +21,14 @@ type reading struct {
 	user   string
 	place  api.Place
 	filter api.Filter
-	// known are the events that had a row when the client was there last, and gone the ids of those that are redacted now.
-	known []api.Event
-	gone  []int
+	sight  *sight.Sight
 }
 
 // partOf returns the part of a room for a user, a place and a filter, at a time, and the next place.
 func partOf(r api.Room, user string, p api.Place, f api.Filter, now int) (api.Part, api.Place) {
 	m := membership(r, user)
 	since, _ := statemap.Get(r.State, api.KMember, user)
-	x := reading{room: r, user: user, place: p, filter: f, known: before(r, p.Pos), gone: redact.Gone(r.Events)}
+	x := reading{room: r, user: user, place: p, filter: f, sight: sight.Open(r)}
 	part := api.Part{Room: r.Id, Member: m}
 	next := api.Place{Room: r.Id, Pos: r.Next, Told: m, Since: since}
 	switch m {
@@ -46,21 +42,21 @@ func partOf(r api.Room, user string, p api.Place, f api.Filter, now int) (api.Pa
 	default:
 		if p.Told == api.Join {
 			x.page(&part, p.Pos)
-			part.State = x.shown(x.entries(func(entry api.Entry) bool { return x.own(entry) }))
+			part.State = x.shown(x.entries(x.own))
 		}
 	}
 	return part, next
 }
 
-// before returns the events that have a row before a position.
-func before(r api.Room, pos int) []api.Event {
+// known returns the events that had a row when the client was there last.
+func (x reading) known() []api.Event {
 	old := map[int]bool{}
-	for _, row := range r.Rows {
-		if row.Pos < pos {
+	for _, row := range x.room.Rows {
+		if row.Pos < x.place.Pos {
 			old[row.Id] = true
 		}
 	}
-	return slices.DeleteFunc(slices.Clone(r.Events), func(e api.Event) bool { return !old[e.Id] })
+	return slices.DeleteFunc(slices.Clone(x.room.Events), func(e api.Event) bool { return !old[e.Id] })
 }
 
 // own reports whether an entry is the user's membership.
@@ -82,13 +78,13 @@ func (x reading) invitation() api.State {
 
 // shown returns the shown events of the entries of a state.
 func (x reading) shown(s api.State) []api.Event {
-	return sight.Forms(statemap.Events(x.room.Events, s), x.gone)
+	return x.sight.Forms(statemap.Events(x.room.Events, s))
 }
 
 // page sets the timeline of a part, from a position on.
 func (x reading) page(part *api.Part, from int) {
-	l := sight.Forms(store.Of(x.room.Events, timeline.After(x.room, x.user, from)), x.gone)
-	part.Timeline, part.Limited = filter.Cut(x.filter, l)
+	rows := slices.DeleteFunc(x.sight.Shown(x.user), func(row api.Row) bool { return row.Pos < from })
+	part.Timeline, part.Limited = filter.Cut(x.filter, x.sight.Events(rows))
 	if part.Limited && len(part.Timeline) > 0 {
 		row, _ := room.Row(x.room, part.Timeline[0].Id)
 		part.Back = row.Pos
@@ -98,26 +94,42 @@ func (x reading) page(part *api.Part, from int) {
 // joined sets the part of a user who is joined by the event since.
 func (x reading) joined(part *api.Part, since, now int) {
 	changed, from := x.room.State, 0
-	old, goesOn := x.goesOn(since)
-	if goesOn {
+	if old, gone, goesOn := x.goesOn(since); goesOn {
 		changed, from = statemap.Diff(old, x.room.State), x.place.Pos
-		part.Gone = num.Minus(x.gone, redact.Gone(x.known))
+		part.Gone = num.Minus(targets(x.sight.Book()), gone)
+	} else {
+		part.Anew = true
 	}
-	part.Anew = !goesOn
 	x.page(part, from)
 	part.State = filter.Lazy(x.filter, x.shown(changed), part.Timeline)
 	part.Receipts = slices.Clone(x.room.Receipts)
 	part.Typing = typing.Now(x.room.Typing, now)
-	part.Unread = receipts.Unread(x.room, x.room.Receipts, x.user)
+	receipt, found := receipts.Get(x.room.Receipts, x.user, 0)
+	part.Unread = len(unread.Messages(x.sight, unread.Place(x.room, receipt, found), x.user))
 }
 
-// goesOn returns the state that the client had last, and whether the client can go on from there.
-func (x reading) goesOn(since int) (api.State, bool) {
+// goesOn returns the state that the client had last, what was redacted then, and whether the client can go on from there.
+func (x reading) goesOn(since int) (api.State, []int, bool) {
 	if x.place.Told != api.Join || x.place.Since != since {
-		return nil, false
+		return nil, nil, false
 	}
-	old := replay.Current(x.known)
-	return old, !losesKey(old, x.room.State)
+	old, gone := api.State{}, []int{}
+	if b, right := history.Open(x.known()); right {
+		old, gone = b.Current(), targets(b)
+	}
+	return old, gone, !losesKey(old, x.room.State)
+}
+
+// targets returns the ids of the events that were redacted.
+func targets(b *history.Book) []int {
+	ids := []int{}
+	if b == nil {
+		return ids
+	}
+	for _, r := range b.Redactions() {
+		ids = append(ids, r.Target)
+	}
+	return num.Sorted(ids)
 }
 
 // losesKey reports whether a state has a key that the next one has not.

@@ -5,9 +5,8 @@ import (
 	"slices"
 
 	"fedchat/api"
-	"fedchat/redact"
+	"fedchat/sight"
 	"fedchat/store"
-	"fedchat/visible"
 )
 
 // Place returns the index of the row that a receipt names, or -1 if there is no receipt or no such row.
@@ -19,17 +18,11 @@ func Place(r api.Room, receipt api.Receipt, found bool) int {
 }
 
 // Messages returns the messages of others behind a place that the user may see, and that are not gone.
-func Messages(r api.Room, place int, user string) []api.Event {
-	seen := map[int]bool{}
-	for _, id := range visible.Rows(r, user) {
-		seen[id] = true
-	}
-	for _, id := range redact.Gone(r.Events) {
-		seen[id] = false
-	}
+func Messages(s *sight.Sight, place int, user string) []api.Event {
+	r, gone := s.Room(), s.Gone()
 	wanted := []int{}
 	for _, row := range r.Rows[place+1:] {
-		if seen[row.Id] && !row.Gone {
+		if !row.Gone && !gone[row.Id] && s.May(row.Id, user) == api.OK {
 			wanted = append(wanted, row.Id)
 		}
 	}

@@ -6,6 +6,7 @@ import (
 
 	"fedchat/api"
 	"fedchat/sample"
+	"fedchat/sight"
 	"fedchat/store"
 )
 
@@ -17,10 +18,10 @@ func TestMessages(t *testing.T) {
 	if Place(r, api.Receipt{Id: first.Id}, true) != 4 || Place(r, api.Receipt{Id: first.Id}, false) != -1 || Place(r, api.Receipt{Id: 7}, true) != -1 {
 		t.Error("Place")
 	}
-	if got := store.Ids(Messages(r, -1, "@bob:b")); !slices.Equal(got, []int{first.Id, second.Id}) {
+	if got := store.Ids(Messages(sight.Open(r), -1, "@bob:b")); !slices.Equal(got, []int{first.Id, second.Id}) {
 		t.Error("all messages", got)
 	}
-	if got := store.Ids(Messages(r, 4, "@bob:b")); !slices.Equal(got, []int{second.Id}) || len(Messages(r, -1, "@ann:a")) != 0 {
+	if got := store.Ids(Messages(sight.Open(r), 4, "@bob:b")); !slices.Equal(got, []int{second.Id}) || len(Messages(sight.Open(r), -1, "@ann:a")) != 0 {
 		t.Error("behind a place", got)
 	}
 }
