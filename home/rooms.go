@@ -2,8 +2,6 @@ package home
 
 import (
 	"fedchat/api"
-	"fedchat/build"
-	"fedchat/ids"
 	"fedchat/members"
 	"fedchat/moderate"
 	"fedchat/notify"
@@ -13,6 +11,7 @@ import (
 	"fedchat/relate"
 	"fedchat/retain"
 	"fedchat/search"
+	"fedchat/sending"
 	"fedchat/server"
 	"fedchat/statemap"
 	"fedchat/store"
@@ -30,28 +29,14 @@ func (d deed) room() (api.Room, api.Errno) {
 	return r, api.OK
 }
 
-// sent returns the server after the user has sent an event into the room; check, if there is one, is asked before.
+// sent returns the server after the user has sent an event into the room; check is asked before.
 func (d deed) sent(k api.Kind, key string, c api.Content, check func(r api.Room, e api.Event) api.Errno) result {
-	r, err := d.room()
-	if err != api.OK {
-		return failure(err)
-	}
-	e, err := build.Next(r.Events, d.user, k, key, c, d.server.Now)
-	if err != api.OK {
-		return failure(err)
-	}
-	if err := check(r, e); err != api.OK {
-		return failure(err)
-	}
-	s, err := server.Local(d.server, e)
+	e := api.Event{Room: d.name(0), Kind: k, Key: key, Content: c}
+	s, e, err := sending.Send(d.server, d.user, e, d.server.Now, check)
 	if err != api.OK {
 		return failure(err)
 	}
 	return result{server: s, output: sums.Hex(e.Id)}
-}
-
-func unchecked(api.Room, api.Event) api.Errno {
-	return api.OK
 }
 
 func send(d deed) result {
@@ -66,7 +51,7 @@ func send(d deed) result {
 
 // setMember sends a change of a membership.
 func (d deed) setMember(user string, m int) result {
-	return d.sent(api.KMember, user, api.Content{N: m, Text: d.act.Body.Text}, unchecked)
+	return d.sent(api.KMember, user, api.Content{N: m, Text: d.act.Body.Text}, sending.Anything)
 }
 
 func redactEvent(d deed) result {
@@ -77,27 +62,15 @@ func redactEvent(d deed) result {
 	if _, known := store.Get(r.Events, d.act.N); !known {
 		return failure(api.ErrNone)
 	}
-	return d.sent(api.KRedact, "", api.Content{Target: d.act.N, Text: d.act.Body.Text}, unchecked)
+	return d.sent(api.KRedact, "", api.Content{Target: d.act.N, Text: d.act.Body.Text}, sending.Anything)
 }
 
 func create(d deed) result {
-	room, err := ids.Make('!', d.name(0), d.server.Name)
+	s, room, err := sending.Create(d.server, d.user, d.name(0), d.server.Now, d.act.N, d.act.Body.N)
 	if err != api.OK {
 		return failure(err)
 	}
-	events, err := build.Room(room, d.user, d.server.Now, d.act.N, d.act.Body.N)
-	if err != api.OK {
-		return failure(err)
-	}
-	if _, known := server.Room(d.server, room); known {
-		return failure(api.ErrTwice)
-	}
-	for _, e := range events {
-		if d.server, err = server.Local(d.server, e); err != api.OK {
-			return failure(err)
-		}
-	}
-	return result{server: d.server, output: room}
+	return result{server: s, output: room}
 }
 
 func read(d deed) result {
@@ -139,7 +112,7 @@ func apply(d deed) result {
 		if len(plan) == 0 {
 			return
 		}
-		one := deed{done.server, d.user, d.act}.sent(plan[0].Kind, plan[0].Key, plan[0].Content, unchecked)
+		one := deed{done.server, d.user, d.act}.sent(plan[0].Kind, plan[0].Key, plan[0].Content, sending.Anything)
 		if one.err != api.OK {
 			done = one
 			return

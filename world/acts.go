@@ -5,7 +5,6 @@ import (
 
 	"fedchat/api"
 	"fedchat/authset"
-	"fedchat/build"
 	"fedchat/clone"
 	"fedchat/content"
 	"fedchat/evil"
@@ -13,6 +12,7 @@ import (
 	"fedchat/net"
 	"fedchat/num"
 	"fedchat/outgoing"
+	"fedchat/sending"
 	"fedchat/server"
 	"fedchat/store"
 	"fedchat/sums"
@@ -119,49 +119,25 @@ func onServer(g api.Grid, name string, anyway bool, do func(s api.Server) result
 }
 
 func create(g api.Grid, s api.Server, a api.Act) result {
-	user, local := a.Names[0], a.Names[1]
-	room, err := ids.Make('!', local, s.Name)
+	s, room, err := sending.Create(s, a.Names[0], a.Names[1], g.Now, a.N, a.Body.N)
 	if err != api.OK {
 		return failure(err)
-	}
-	events, err := build.Room(room, user, g.Now, a.N, a.Body.N)
-	if err != api.OK {
-		return failure(err)
-	}
-	if _, known := server.Room(s, room); known {
-		return failure(api.ErrTwice)
-	}
-	for _, e := range events {
-		if s, err = server.Local(s, e); err != api.OK {
-			return failure(err)
-		}
 	}
 	return result{grid: putBack(g, s), output: room}
 }
 
-// own is an event that a user sends.
-type own struct {
-	user, room string
-	kind       api.Kind
-	key        string
-	content    api.Content
+// sendOwn lets the server s take an event of its user in, with the room, the kind, the key and the content of e, and returns the event.
+func sendOwn(g api.Grid, s api.Server, user string, e api.Event) (result, api.Event) {
+	s, sent, err := sending.Send(s, user, e, g.Now, sending.Anything)
+	if err != api.OK {
+		return failure(err), api.Event{}
+	}
+	return result{grid: putBack(g, s), output: sums.Hex(sent.Id)}, sent
 }
 
-// sendOwn lets the server s take an event of its user in, and returns the event.
-func sendOwn(g api.Grid, s api.Server, o own) (result, api.Event) {
-	r, known := server.Room(s, o.room)
-	if !known {
-		return failure(api.ErrNone), api.Event{}
-	}
-	e, err := build.Next(r.Events, o.user, o.kind, o.key, o.content, g.Now)
-	if err != api.OK {
-		return failure(err), api.Event{}
-	}
-	s, err = server.Local(s, e)
-	if err != api.OK {
-		return failure(err), api.Event{}
-	}
-	return result{grid: putBack(g, s), output: sums.Hex(e.Id)}, e
+// memberEvent is a change of a membership.
+func memberEvent(room, user string, m int) api.Event {
+	return api.Event{Room: room, Kind: api.KMember, Key: user, Content: api.Content{N: m}}
 }
 
 // keyOf returns the name with this index, or the empty key.
@@ -173,14 +149,14 @@ func keyOf(a api.Act, i int) string {
 }
 
 func sendEvent(g api.Grid, s api.Server, a api.Act) result {
-	done, _ := sendOwn(g, s, own{a.Names[0], a.Names[1], api.Kind(a.N), keyOf(a, 2), a.Body})
+	done, _ := sendOwn(g, s, a.Names[0], api.Event{Room: a.Names[1], Kind: api.Kind(a.N), Key: keyOf(a, 2), Content: a.Body})
 	return done
 }
 
 func join(g api.Grid, s api.Server, a api.Act) result {
 	user, room, other := a.Names[0], a.Names[1], a.Names[2]
 	if _, known := server.Room(s, room); known {
-		done, _ := sendOwn(g, s, own{user, room, api.KMember, user, api.Content{N: api.Join}})
+		done, _ := sendOwn(g, s, user, memberEvent(room, user, api.Join))
 		return done
 	}
 	if placeOf(g, other) < 0 {
@@ -197,7 +173,7 @@ func join(g api.Grid, s api.Server, a api.Act) result {
 
 func invite(g api.Grid, s api.Server, a api.Act) result {
 	user, room, target := a.Names[0], a.Names[1], a.Names[2]
-	done, e := sendOwn(g, s, own{user, room, api.KMember, target, api.Content{N: api.Invite}})
+	done, e := sendOwn(g, s, user, memberEvent(room, target, api.Invite))
 	if done.err != api.OK {
 		return done
 	}
@@ -277,7 +253,7 @@ func forge(g api.Grid, s api.Server, a api.Act) result {
 	}
 	c := a.Body
 	c.Target = 0
-	e := looseEvent(r, own{user, room, api.Kind(a.Body.Target), keyOf(a, 3), c}, g.Now)
+	e := loose(r, api.Event{Room: room, Sender: user, Kind: api.Kind(a.Body.Target), Key: keyOf(a, 3), Content: c, Time: g.Now})
 	packets, err := evil.Forge(s, api.Deed{Kind: a.N, To: to, Event: e})
 	if err != api.OK {
 		return failure(err)
@@ -285,9 +261,9 @@ func forge(g api.Grid, s api.Server, a api.Act) result {
 	return result{grid: sendAll(g, packets)}
 }
 
-// looseEvent returns an event of a user that nothing was checked of.
-func looseEvent(r api.Room, o own, now int) api.Event {
-	e := api.Event{Room: o.room, Sender: o.user, Kind: o.kind, State: content.State(o.kind), Key: o.key, Time: now, Depth: 1, Content: o.content}
+// loose returns an event behind the heads of a room that nothing was checked of.
+func loose(r api.Room, e api.Event) api.Event {
+	e.State, e.Depth = content.State(e.Kind), 1
 	e.Prev = r.Heads[:min(len(r.Heads), api.MaxPrev)]
 	for _, prev := range store.Of(r.Events, e.Prev) {
 		e.Depth = max(e.Depth, prev.Depth+1)
