@@ -189,7 +189,7 @@ func invite(g api.Grid, s api.Server, a api.Act) result {
 func ask(g api.Grid, s api.Server, a api.Act) result {
 	other, room := a.Names[1], a.Names[2]
 	r, known := server.Room(s, room)
-	if !known || placeOf(g, other) < 0 {
+	if !known {
 		return failure(api.ErrNone)
 	}
 	p := api.Packet{From: s.Name, To: other, Kind: api.PBack, N: api.MaxPage, Room: room, Ids: r.Heads}
