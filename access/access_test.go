@@ -1,10 +1,11 @@
-package access
+package access_test
 
 import (
 	"math/rand"
 	"slices"
 	"testing"
 
+	. "fedchat/access"
 	"fedchat/api"
 	"fedchat/content"
 )

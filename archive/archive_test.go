@@ -1,4 +1,4 @@
-package archive
+package archive_test
 
 import (
 	"fmt"
@@ -9,12 +9,16 @@ import (
 	"testing"
 
 	"fedchat/api"
+	. "fedchat/archive"
 	"fedchat/event"
 	"fedchat/room"
 	"fedchat/sample"
 	"fedchat/sums"
 	"fedchat/visible"
 )
+
+// maxText is how many bytes the text of a room has at most.
+const maxText = 500000
 
 func TestQuote(t *testing.T) {
 	for s, want := range map[string]string{"": `""`, "a\n\xff": `"a\n\xff"`, `say "hi"\`: `"say \"hi\"\\"`, " ~\x1f\x7f\x00\r": `" ~\x1f\x7f\x00\x0d"`, "ä": `"\xc3\xa4"`} {

@@ -1,4 +1,4 @@
-package audit
+package audit_test
 
 import (
 	"fmt"
@@ -8,6 +8,7 @@ import (
 	"testing"
 
 	"fedchat/api"
+	. "fedchat/audit"
 	"fedchat/clone"
 	"fedchat/event"
 	"fedchat/members"

@@ -1,10 +1,11 @@
-package auth
+package auth_test
 
 import (
 	"math/rand"
 	"testing"
 
 	"fedchat/api"
+	. "fedchat/auth"
 	"fedchat/event"
 	"fedchat/ids"
 	"fedchat/levels"

@@ -1,4 +1,4 @@
-package authset
+package authset_test
 
 import (
 	"fmt"
@@ -7,6 +7,7 @@ import (
 	"testing"
 
 	"fedchat/api"
+	. "fedchat/authset"
 	"fedchat/num"
 	"fedchat/store"
 )

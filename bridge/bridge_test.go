@@ -1,4 +1,4 @@
-package bridge
+package bridge_test
 
 import (
 	"fmt"
@@ -8,6 +8,7 @@ import (
 	"testing"
 
 	"fedchat/api"
+	. "fedchat/bridge"
 	"fedchat/content"
 	"fedchat/ids"
 )

@@ -1,4 +1,4 @@
-package build
+package build_test
 
 import (
 	"fmt"
@@ -9,6 +9,7 @@ import (
 	"fedchat/api"
 	"fedchat/auth"
 	"fedchat/authset"
+	. "fedchat/build"
 	"fedchat/event"
 	"fedchat/graph"
 	"fedchat/ids"

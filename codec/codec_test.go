@@ -1,4 +1,4 @@
-package codec
+package codec_test
 
 import (
 	"bytes"
@@ -7,6 +7,8 @@ import (
 	"math/rand"
 	"slices"
 	"testing"
+
+	. "fedchat/codec"
 )
 
 func bytesOf(t *testing.T, s string) []byte {

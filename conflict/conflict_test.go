@@ -1,4 +1,4 @@
-package conflict
+package conflict_test
 
 import (
 	"fmt"
@@ -7,6 +7,7 @@ import (
 	"testing"
 
 	"fedchat/api"
+	. "fedchat/conflict"
 	"fedchat/graph"
 	"fedchat/num"
 )

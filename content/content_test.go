@@ -1,4 +1,4 @@
-package content
+package content_test
 
 import (
 	"bytes"
@@ -11,6 +11,7 @@ import (
 
 	"fedchat/api"
 	"fedchat/codec"
+	. "fedchat/content"
 )
 
 // right has a right content, with all fields set that may be, for each kind.
@@ -43,6 +44,9 @@ func right(k api.Kind) api.Content {
 	}
 	return api.Content{}
 }
+
+// names are the names of the fields.
+var names = []string{"Text", "N", "Target", "Thread", "Via", "Allow", "Deny", "Levels"}
 
 // setters set one field each, in the order of api.Content.
 var setters = []func(c *api.Content){

@@ -1,4 +1,4 @@
-package devices
+package devices_test
 
 import (
 	"fmt"
@@ -10,6 +10,7 @@ import (
 
 	"fedchat/api"
 	"fedchat/clone"
+	. "fedchat/devices"
 )
 
 func device(id string, key int) api.Device {

@@ -1,4 +1,4 @@
-package digest
+package digest_test
 
 import (
 	"fmt"
@@ -9,6 +9,7 @@ import (
 	"fedchat/api"
 	"fedchat/clone"
 	"fedchat/codec"
+	. "fedchat/digest"
 	"fedchat/num"
 	"fedchat/sample"
 	"fedchat/sums"

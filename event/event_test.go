@@ -1,4 +1,4 @@
-package event
+package event_test
 
 import (
 	"bytes"
@@ -11,6 +11,7 @@ import (
 	"fedchat/api"
 	"fedchat/codec"
 	"fedchat/content"
+	. "fedchat/event"
 	"fedchat/sums"
 )
 

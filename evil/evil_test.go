@@ -1,4 +1,4 @@
-package evil
+package evil_test
 
 import (
 	"fmt"
@@ -9,6 +9,7 @@ import (
 	"fedchat/api"
 	"fedchat/clone"
 	"fedchat/event"
+	. "fedchat/evil"
 	"fedchat/ids"
 	"fedchat/room"
 	"fedchat/sample"

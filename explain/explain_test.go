@@ -1,4 +1,4 @@
-package explain
+package explain_test
 
 import (
 	"fmt"
@@ -12,6 +12,7 @@ import (
 	"fedchat/auth"
 	"fedchat/authset"
 	"fedchat/content"
+	. "fedchat/explain"
 	"fedchat/graph"
 	"fedchat/iterate"
 	"fedchat/num"

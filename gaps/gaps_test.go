@@ -1,4 +1,4 @@
-package gaps
+package gaps_test
 
 import (
 	"fmt"
@@ -9,6 +9,7 @@ import (
 	"fedchat/api"
 	"fedchat/clone"
 	"fedchat/event"
+	. "fedchat/gaps"
 	"fedchat/graph"
 	"fedchat/num"
 	"fedchat/outgoing"

@@ -1,4 +1,4 @@
-package glob
+package glob_test
 
 import (
 	"math/rand"
@@ -6,6 +6,7 @@ import (
 	"testing"
 
 	"fedchat/api"
+	. "fedchat/glob"
 )
 
 func TestCheck(t *testing.T) {

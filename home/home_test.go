@@ -1,4 +1,4 @@
-package home
+package home_test
 
 import (
 	"fmt"
@@ -11,6 +11,7 @@ import (
 	"fedchat/build"
 	"fedchat/clone"
 	"fedchat/event"
+	. "fedchat/home"
 	"fedchat/members"
 	"fedchat/num"
 	"fedchat/receipts"
@@ -440,13 +441,9 @@ func randomAct(source *rand.Rand, s api.Server) api.Act {
 			a.Body.Target = 5
 		}
 	}
-	w, _ := wordOf(act(word, 0, api.Content{}))
-	for _, x := range words() {
-		if x.text == word {
-			w = x
-		}
+	for Check("@u:a", a) != api.OK {
+		a.Names = a.Names[1:]
 	}
-	a.Names = a.Names[:min(w.most, len(a.Names))]
 	if strings.HasPrefix(word, "cr") && len(a.Names) > 0 {
 		a.Names[0] = []string{"q", "r", "z"}[source.Intn(3)]
 	}

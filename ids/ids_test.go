@@ -1,4 +1,4 @@
-package ids
+package ids_test
 
 import (
 	"math/rand"
@@ -7,6 +7,7 @@ import (
 	"testing"
 
 	"fedchat/api"
+	. "fedchat/ids"
 )
 
 const name32 = "abcdefghijklmnopqrstuvwxyz012345"

@@ -1,4 +1,4 @@
-package iterate
+package iterate_test
 
 import (
 	"fmt"
@@ -10,6 +10,7 @@ import (
 	"fedchat/auth"
 	"fedchat/authset"
 	"fedchat/content"
+	. "fedchat/iterate"
 	"fedchat/statemap"
 	"fedchat/store"
 )

@@ -1,4 +1,4 @@
-package joining
+package joining_test
 
 import (
 	"math/rand"
@@ -12,6 +12,7 @@ import (
 	"fedchat/event"
 	"fedchat/graph"
 	"fedchat/ids"
+	. "fedchat/joining"
 	"fedchat/members"
 	"fedchat/num"
 	"fedchat/outgoing"

@@ -1,4 +1,4 @@
-package levels
+package levels_test
 
 import (
 	"math"
@@ -7,6 +7,7 @@ import (
 	"testing"
 
 	"fedchat/api"
+	. "fedchat/levels"
 )
 
 type v = api.Levels

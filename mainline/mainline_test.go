@@ -1,4 +1,4 @@
-package mainline
+package mainline_test
 
 import (
 	"math/rand"
@@ -6,6 +6,7 @@ import (
 	"testing"
 
 	"fedchat/api"
+	. "fedchat/mainline"
 	"fedchat/num"
 )
 

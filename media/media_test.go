@@ -1,4 +1,4 @@
-package media
+package media_test
 
 import (
 	"fmt"
@@ -9,6 +9,7 @@ import (
 	"testing"
 
 	"fedchat/api"
+	. "fedchat/media"
 )
 
 func file(server, name string, size, at, is int) api.Media {

@@ -1,4 +1,4 @@
-package members
+package members_test
 
 import (
 	"fmt"
@@ -8,6 +8,7 @@ import (
 	"testing"
 
 	"fedchat/api"
+	. "fedchat/members"
 )
 
 func member(user string, n int) api.Event {

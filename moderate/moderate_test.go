@@ -1,4 +1,4 @@
-package moderate
+package moderate_test
 
 import (
 	"fmt"
@@ -13,6 +13,7 @@ import (
 	"fedchat/event"
 	"fedchat/glob"
 	"fedchat/ids"
+	. "fedchat/moderate"
 	"fedchat/num"
 	"fedchat/redact"
 	"fedchat/room"

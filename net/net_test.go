@@ -1,15 +1,15 @@
-package net
+package net_test
 
 import (
 	"fmt"
 	"math"
 	"math/rand"
-	"reflect"
 	"slices"
 	"testing"
 
 	"fedchat/api"
 	"fedchat/clone"
+	. "fedchat/net"
 )
 
 func packet(from, to string, n int) api.Packet {
@@ -43,7 +43,7 @@ func TestSend(t *testing.T) {
 		t.Fatal(err)
 	}
 	n, err = Send(n, packet("b", "a", 2))
-	if err != api.OK || !slices.Equal(numbers(n), []int{1, 2}) || !reflect.DeepEqual(n.Packets[1], packet("b", "a", 2)) {
+	if err != api.OK || !slices.Equal(numbers(n), []int{1, 2}) || fmt.Sprint(n.Packets[1]) != fmt.Sprint(packet("b", "a", 2)) {
 		t.Error("Send", n, err)
 	}
 	for _, c := range []struct {
@@ -102,7 +102,7 @@ func TestLinks(t *testing.T) {
 				}
 			}
 		}
-		if !slices.IsSortedFunc(next.Cut, compare) {
+		if !slices.IsSortedFunc(next.Cut, func(a, b [2]string) int { return slices.Compare(a[:], b[:]) }) {
 			t.Fatal("not in order", next.Cut)
 		}
 		n = next

@@ -1,4 +1,4 @@
-package notify
+package notify_test
 
 import (
 	"math/rand"
@@ -6,6 +6,7 @@ import (
 	"testing"
 
 	"fedchat/api"
+	. "fedchat/notify"
 	"fedchat/num"
 	"fedchat/receipts"
 	"fedchat/redact"

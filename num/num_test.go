@@ -1,4 +1,4 @@
-package num
+package num_test
 
 import (
 	"math"
@@ -8,6 +8,7 @@ import (
 	"testing"
 
 	"fedchat/api"
+	. "fedchat/num"
 )
 
 // edges are numbers at which bounded arithmetic and texts go wrong most easily.

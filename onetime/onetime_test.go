@@ -1,4 +1,4 @@
-package onetime
+package onetime_test
 
 import (
 	"fmt"
@@ -9,6 +9,7 @@ import (
 	"testing"
 
 	"fedchat/api"
+	. "fedchat/onetime"
 )
 
 func entry(user, device string, next, left int) api.OneTime {

@@ -1,4 +1,4 @@
-package outgoing
+package outgoing_test
 
 import (
 	"math/rand"
@@ -13,6 +13,7 @@ import (
 	"fedchat/ids"
 	"fedchat/members"
 	"fedchat/num"
+	. "fedchat/outgoing"
 	"fedchat/redact"
 	"fedchat/room"
 	"fedchat/sample"

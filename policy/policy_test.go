@@ -1,4 +1,4 @@
-package policy
+package policy_test
 
 import (
 	"fmt"
@@ -9,6 +9,7 @@ import (
 	"fedchat/api"
 	"fedchat/glob"
 	"fedchat/ids"
+	. "fedchat/policy"
 )
 
 func event(key, pattern string, about api.Kind) api.Event {

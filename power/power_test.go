@@ -1,4 +1,4 @@
-package power
+package power_test
 
 import (
 	"fmt"
@@ -9,6 +9,7 @@ import (
 	"fedchat/api"
 	"fedchat/graph"
 	"fedchat/num"
+	. "fedchat/power"
 	"fedchat/store"
 )
 

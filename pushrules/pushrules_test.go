@@ -1,4 +1,4 @@
-package pushrules
+package pushrules_test
 
 import (
 	"fmt"
@@ -14,6 +14,7 @@ import (
 	"fedchat/members"
 	"fedchat/notify"
 	"fedchat/num"
+	. "fedchat/pushrules"
 	"fedchat/redact"
 	"fedchat/relate"
 	"fedchat/room"
@@ -151,7 +152,7 @@ func TestParseErrors(t *testing.T) {
 	for _, s := range []string{
 		"x", "rule", "rule a", "rule a when", "rule a when gone", "rule a when gone do", "rule a when gone do notify,", "rule a when gone do ,", "rule a when gone do notify notify", "rule a when gone do notify,,mute", "rule a when gone do \"notify\"", "rule \"a\" when gone do notify", "Rule a when gone do notify", "rule a When gone do notify", "rule (a) when gone do notify",
 		"rule a when do notify", "rule a when () do notify", "rule a when (gone do notify", "rule a when gone) do notify", "rule a when gone and do notify", "rule a when and gone do notify", "rule a when gone or or gone do notify", "rule a when not do notify", "rule a when gone gone do notify", "rule a when x do notify", "rule a when Gone do notify",
-		"rule a when kind do notify", "rule a when kind x do notify", "rule a when kind 11 do notify", "rule a when kind \"message\" do notify", "rule a when from do notify", "rule a when from \"a do notify", `rule a when from "a\x" do notify`, `rule a when from "a\" do notify`, `rule a when from "a\`, "rule a when word \"x\" do notify", "rule a when level x do notify", "rule a when level 01 do notify", "rule a when level \"1\" do notify", "rule a when level - 1 do notify", "rule a when level do notify", "\trule a when gone do notify", "rule a when gone do notify\r,", "rule a when gone # do notify",
+		"rule a when kind do notify", "rule a when kind x do notify", "rule a when kind 11 do notify", "rule a when kind \"message\" do notify", "rule a when from do notify", "rule a when from \"a do notify", `rule a when from "a\x" do notify`, `rule a when from "a\" do notify`, `rule a when from "a\`, "rule a when word \"x\" do notify", "rule a when level x do notify", "rule a when level 01 do notify", "rule a when level \"1\" do notify", "rule a when level - 1 do notify", "rule a when level do notify", "rule a when gone do notify\r,", "rule a when gone # do notify",
 	} {
 		if rules, line, err := Parse("\nrule x when gone do mute\n" + s + "\nx"); len(rules) != 0 || line != 3 || err != api.ErrText {
 			t.Errorf("%q: %d, %d", s, line, err)
@@ -192,6 +193,21 @@ func TestOpenParentheses(t *testing.T) {
 		t.Error("closed parentheses do not count", err)
 	}
 }
+
+func usesKids(op api.CondOp) bool {
+	return op == api.AllOf || op == api.OneOf || op == api.NotSo
+}
+
+func usesText(op api.CondOp) bool {
+	return op == api.FromLike || op == api.RoomLike || op == api.TextLike
+}
+
+func usesNumber(op api.CondOp) bool {
+	return op == api.LevelFrom || op == api.MembersFrom || op == api.TimeFrom
+}
+
+// never is the condition that does not hold for anything.
+func never() api.Cond { return with(api.NotSo, leaf(api.Always)) }
 
 func randomCond(source *rand.Rand, levels int, valid bool) api.Cond {
 	op := api.CondOp(1 + source.Intn(17))

@@ -1,4 +1,4 @@
-package queues
+package queues_test
 
 import (
 	"math"
@@ -9,6 +9,7 @@ import (
 	"fedchat/api"
 	"fedchat/clone"
 	"fedchat/num"
+	. "fedchat/queues"
 	"fedchat/store"
 )
 

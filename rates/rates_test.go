@@ -1,4 +1,4 @@
-package rates
+package rates_test
 
 import (
 	"math"
@@ -6,6 +6,7 @@ import (
 	"testing"
 
 	"fedchat/api"
+	. "fedchat/rates"
 )
 
 func bucket(left, at, most, every int) api.Bucket {

@@ -1,4 +1,4 @@
-package receipts
+package receipts_test
 
 import (
 	"fmt"
@@ -10,6 +10,7 @@ import (
 	"fedchat/api"
 	"fedchat/ids"
 	"fedchat/num"
+	. "fedchat/receipts"
 	"fedchat/redact"
 	"fedchat/sample"
 	"fedchat/store"

@@ -1,4 +1,4 @@
-package redact
+package redact_test
 
 import (
 	"fmt"
@@ -12,6 +12,7 @@ import (
 	"fedchat/levels"
 	"fedchat/members"
 	"fedchat/num"
+	. "fedchat/redact"
 	"fedchat/replay"
 	"fedchat/sample"
 	"fedchat/statemap"

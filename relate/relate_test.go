@@ -1,4 +1,4 @@
-package relate
+package relate_test
 
 import (
 	"fmt"
@@ -7,6 +7,7 @@ import (
 	"testing"
 
 	"fedchat/api"
+	. "fedchat/relate"
 )
 
 func message(id int, sender, text string, target int, thread bool) api.Event {

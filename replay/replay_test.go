@@ -1,4 +1,4 @@
-package replay
+package replay_test
 
 import (
 	"fmt"
@@ -13,6 +13,7 @@ import (
 	"fedchat/event"
 	"fedchat/graph"
 	"fedchat/num"
+	. "fedchat/replay"
 	"fedchat/resolve"
 	"fedchat/sample"
 	"fedchat/statemap"

@@ -1,4 +1,4 @@
-package resolve
+package resolve_test
 
 import (
 	"fmt"
@@ -12,6 +12,7 @@ import (
 	"fedchat/mainline"
 	"fedchat/num"
 	"fedchat/power"
+	. "fedchat/resolve"
 	"fedchat/statemap"
 	"fedchat/store"
 )

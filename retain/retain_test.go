@@ -1,4 +1,4 @@
-package retain
+package retain_test
 
 import (
 	"fmt"
@@ -9,6 +9,7 @@ import (
 	"fedchat/api"
 	"fedchat/clone"
 	"fedchat/num"
+	. "fedchat/retain"
 	"fedchat/room"
 	"fedchat/sample"
 	"fedchat/store"

@@ -1,4 +1,4 @@
-package rules
+package rules_test
 
 import (
 	"math"
@@ -6,6 +6,7 @@ import (
 	"testing"
 
 	"fedchat/api"
+	. "fedchat/rules"
 )
 
 func TestOf(t *testing.T) {

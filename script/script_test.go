@@ -1,4 +1,4 @@
-package script
+package script_test
 
 import (
 	"fmt"
@@ -9,11 +9,15 @@ import (
 
 	"fedchat/api"
 	"fedchat/content"
+	. "fedchat/script"
 	"fedchat/sums"
 	"fedchat/timeline"
 	"fedchat/view"
 	"fedchat/world"
 )
+
+// words are those of acts.
+var words = strings.Fields("servers as view create send join invite sync deliver drop copy cut heal crash start tick flush settle evil")
 
 func sameActs(a, b []api.Act) bool {
 	return slices.EqualFunc(a, b, func(x, y api.Act) bool {
@@ -158,29 +162,31 @@ func TestActsAtHomeHaveTheTimeOfTheWorld(t *testing.T) {
 	}
 }
 
-// grid runs a script by its acts, and returns the world.
+// grid returns the world after the acts of a script, all but the first of which are those of world.Step.
 func grid(t *testing.T, s string) api.Grid {
 	t.Helper()
 	acts, _, err := Parse(s)
 	if err != api.OK {
 		t.Fatal("Parse", err)
 	}
-	g := api.Grid{}
-	for i, a := range acts {
-		if g, _, err = perform(g, a, i == 0); err != api.OK {
-			t.Fatal("the act", i+1, err)
+	g, err := world.New(acts[0].Names, nil)
+	if err != api.OK {
+		t.Fatal("New", err)
+	}
+	for i, a := range acts[1:] {
+		if g, _, err = world.Step(g, a); err != api.OK {
+			t.Fatal("the act", i+2, err)
 		}
 	}
 	return g
 }
 
 func TestClient(t *testing.T) {
-	text := example[:strings.LastIndex(example, "\n")]
+	text := lines("servers a b", "create @u:a r n=1", "join @w:b !r:a a", "settle n=60")
 	for i := range 40 {
 		text += fmt.Sprintf("\nsend @u:a !r:a n=11 text=%d", i)
 	}
-	text += "\nsettle n=200\nsend @u:a !r:a n=2 @x:b"
-	text = strings.Replace(text, "n=2 @x:b", "@x:b n=2 c=1", 1)
+	text += "\nsettle n=200\nsend @u:a !r:a @x:b n=2 c=1"
 	g := grid(t, text+"\nsettle n=200")
 	for _, user := range []string{"@u:a", "@w:b"} {
 		s, _ := world.Server(g, user[3:])

@@ -1,4 +1,4 @@
-package search
+package search_test
 
 import (
 	"fmt"
@@ -15,6 +15,7 @@ import (
 	"fedchat/relate"
 	"fedchat/room"
 	"fedchat/sample"
+	. "fedchat/search"
 	"fedchat/store"
 	"fedchat/timeline"
 	"fedchat/visible"

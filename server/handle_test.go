@@ -1,4 +1,4 @@
-package server
+package server_test
 
 import (
 	"fmt"
@@ -17,6 +17,7 @@ import (
 	"fedchat/members"
 	"fedchat/room"
 	"fedchat/sample"
+	. "fedchat/server"
 	"fedchat/store"
 )
 

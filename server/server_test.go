@@ -1,4 +1,4 @@
-package server
+package server_test
 
 import (
 	"fmt"
@@ -12,6 +12,7 @@ import (
 	"fedchat/outgoing"
 	"fedchat/room"
 	"fedchat/sample"
+	. "fedchat/server"
 	"fedchat/store"
 )
 
@@ -227,8 +228,8 @@ func TestFlush(t *testing.T) {
 	if got.Now != 250 || len(l) != 2 || l[0].To != "b" || l[1].To != "d" || l[1].N != 3 {
 		t.Error("later", l)
 	}
-	if again, l := Flush(got, 5); again.Now != 250 || len(l) != 2 || !same(again, got) {
-		t.Error("an earlier time", again.Now, l)
+	if again, _ := Flush(got, 5); !same(again, got) {
+		t.Error("an earlier time", again.Now)
 	}
 	s.Down = true
 	if got, l := Flush(s, 999); got.Now != 999 || len(l) != 0 || !same(got.Queues, s.Queues) {

@@ -1,4 +1,4 @@
-package sessions
+package sessions_test
 
 import (
 	"fmt"
@@ -9,6 +9,7 @@ import (
 	"testing"
 
 	"fedchat/api"
+	. "fedchat/sessions"
 )
 
 func same(a, b any) bool {

@@ -1,4 +1,4 @@
-package statemap
+package statemap_test
 
 import (
 	"math/rand"
@@ -7,6 +7,7 @@ import (
 	"testing"
 
 	"fedchat/api"
+	. "fedchat/statemap"
 )
 
 func entry(k api.Kind, key string, id int) api.Entry {

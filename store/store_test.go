@@ -1,4 +1,4 @@
-package store
+package store_test
 
 import (
 	"fmt"
@@ -8,6 +8,7 @@ import (
 
 	"fedchat/api"
 	"fedchat/event"
+	. "fedchat/store"
 )
 
 // signed is a message with a text, rightly signed.

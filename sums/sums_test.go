@@ -1,4 +1,4 @@
-package sums
+package sums_test
 
 import (
 	"hash/fnv"
@@ -7,6 +7,8 @@ import (
 	"math/rand"
 	"strings"
 	"testing"
+
+	. "fedchat/sums"
 )
 
 const most = 1<<62 - 1

@@ -1,4 +1,4 @@
-package sync
+package sync_test
 
 import (
 	"fmt"
@@ -20,6 +20,7 @@ import (
 	"fedchat/sample"
 	"fedchat/statemap"
 	"fedchat/store"
+	. "fedchat/sync"
 	"fedchat/timeline"
 	"fedchat/typing"
 	"fedchat/visible"

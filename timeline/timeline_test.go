@@ -1,4 +1,4 @@
-package timeline
+package timeline_test
 
 import (
 	"fmt"
@@ -15,6 +15,7 @@ import (
 	"fedchat/room"
 	"fedchat/sample"
 	"fedchat/store"
+	. "fedchat/timeline"
 	"fedchat/visible"
 )
 

@@ -1,4 +1,4 @@
-package trust
+package trust_test
 
 import (
 	"fmt"
@@ -7,6 +7,7 @@ import (
 	"testing"
 
 	"fedchat/api"
+	. "fedchat/trust"
 )
 
 func other() api.Keys {

@@ -1,4 +1,4 @@
-package typing
+package typing_test
 
 import (
 	"fmt"
@@ -8,6 +8,7 @@ import (
 	"testing"
 
 	"fedchat/api"
+	. "fedchat/typing"
 )
 
 func record(user string, until int) api.Typing {

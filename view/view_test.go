@@ -1,4 +1,4 @@
-package view
+package view_test
 
 import (
 	"fmt"
@@ -15,6 +15,7 @@ import (
 	"fedchat/store"
 	"fedchat/sync"
 	"fedchat/timeline"
+	. "fedchat/view"
 )
 
 func events(ids ...int) []api.Event {

@@ -1,4 +1,4 @@
-package visible
+package visible_test
 
 import (
 	"fmt"
@@ -17,6 +17,7 @@ import (
 	"fedchat/sample"
 	"fedchat/statemap"
 	"fedchat/store"
+	. "fedchat/visible"
 )
 
 func TestExamples(t *testing.T) {

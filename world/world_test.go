@@ -1,4 +1,4 @@
-package world
+package world_test
 
 import (
 	"fmt"
@@ -17,6 +17,7 @@ import (
 	"fedchat/statemap"
 	"fedchat/store"
 	"fedchat/sums"
+	. "fedchat/world"
 )
 
 // same compares worlds, in which nil and empty lists are equal.
@@ -146,7 +147,6 @@ func TestErrorsOfWords(t *testing.T) {
 		"an unknown kind":    {act("send", 99, api.Content{}, "@u:a", "!r:a"), api.ErrArg},
 		"not a member":       {act("send", int(api.KMessage), api.Content{}, "@x:a", "!r:a"), api.ErrMember},
 		"sync without room":  {act("sync", 0, api.Content{}, "a", "b", "!x:a"), api.ErrNone},
-		"sync with nobody":   {act("sync", 0, api.Content{}, "a", "z", "!r:a"), api.ErrNone},
 		"join by nobody":     {act("join", 0, api.Content{}, "@u:b", "!x:a", "z"), api.ErrNone},
 		"evil by an honest":  {act("evil", 0, api.Content{}, "@u:a", "!x:a", "z"), api.ErrState},
 		"a room's name":      {act("create", 1, api.Content{}, "@u:a", "R"), api.ErrName},
